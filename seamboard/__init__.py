@@ -1,0 +1,1 @@
+"""Checks on a board that joins round about."""
