@@ -1,6 +1,6 @@
 """The board: its sites, its edges, what flips light and which seams they cross."""
 
-from seamboard.errors import BadBoard, BadFlips
+from seamboard.errors import BadBoard, BadFlips, BadLit
 
 LEAST_SIDE = 2
 MOST_SIDE = 5
@@ -42,6 +42,13 @@ def require_flips(board, flips):
     place = first_misplaced(flips, edge_count(board))
     if place is not None:
         raise BadFlips(place)
+
+
+def require_lit(board, lit):
+    """Refuse what is no rising tuple of sites of the board."""
+    place = first_misplaced(lit, site_count(board))
+    if place is not None:
+        raise BadLit(place)
 
 
 def site_count(board):

@@ -1,6 +1,7 @@
 """The document's words about the board once more, by rows and columns, for the tests to compare with."""
 
 import contextlib
+import inspect
 from itertools import combinations
 
 BOARDS = [(rows, columns) for rows in range(2, 6) for columns in range(2, 6)]
@@ -113,12 +114,125 @@ def some_of(many):
     return told
 
 
+CROSSINGS = [(0, 0), (0, 1), (1, 0), (1, 1)]
+
+
+def mark_of(board, flips):
+    """What flips do, as one number: the sites that they light, and behind these how they cross the seams."""
+    first, second = crossed(board, flips)
+    return mark_of_lit(lit(board, flips)) + 2 * first + second
+
+
+def mark_of_lit(sites):
+    """The number of flips that light these sites and cross no seam."""
+    return sum(4 << site for site in sites)
+
+
+def costs_of(board, number):
+    """Some costs from 1 to 99, other ones for each number, both 1 and 99 among them."""
+    many = many_edges(board)
+    costs = [1 + (number * number + 31 * number * edge + 17 * edge * edge) % 99 for edge in range(many)]
+    costs[number % many] = 1
+    costs[(number + 3) % many] = 99
+    return tuple(costs)
+
+
+def least_by_all_flips(board, costs):
+    """The least cost for each number of mark_of, by going through all flips."""
+    marks = [mark_of(board, (edge,)) for edge in range(many_edges(board))]
+    best = {}
+    for bits in range(2 ** many_edges(board)):
+        mark = cost = 0
+        for edge, more in enumerate(costs):
+            if bits >> edge & 1:
+                mark ^= marks[edge]
+                cost += more
+        best[mark] = min(cost, best.get(mark, cost))
+    return best
+
+
+def least_edge_by_edge(board, costs):
+    """The least cost for each number of mark_of: edge by edge, the edge may be flipped or not."""
+    best = {0: 0}
+    for edge, more in enumerate(costs):
+        mark = mark_of(board, (edge,))
+        with_edge = dict(best)
+        for begin, cost in best.items():
+            if cost + more < with_edge.get(begin ^ mark, cost + more + 1):
+                with_edge[begin ^ mark] = cost + more
+        best = with_edge
+    return best
+
+
+def least_beat_by_beat(board, told, flip, lie):
+    """The least costs of stories for the four crossings: beat by beat, all that flips can do may be done."""
+    moves = least_edge_by_edge(board, [flip] * many_edges(board))
+    best = {0: 0}
+    for number, sites in enumerate(told):
+        shown = mark_of_lit(sites) // 4
+        later = {}
+        for begin, cost in best.items():
+            for mark, more in moves.items():
+                now = begin ^ mark
+                lies = bin(now // 4 ^ shown).count("1")
+                if lies == 0 or number < len(told) - 1:
+                    later[now] = min(cost + more + lie * lies, later.get(now, 10 ** 9))
+        best = later
+    return [best[mark_of_lit(told[-1]) + place] for place in range(4)]
+
+
+def changes(told):
+    """The places (beat, site) where a site tells otherwise than at the beat ahead."""
+    ahead = [()] + list(told)
+    return [(beat, site) for beat, sites in enumerate(told) for site in sorted(set(sites) ^ set(ahead[beat]))]
+
+
+def least_two_by_two(board, spots, flip, lie):
+    """The least costs for the four crossings, where each flip costs the same.
+
+    The spots (beat, site) are joined two by two in all ways, and beside these a row or a column may be flipped.
+    """
+    rows, columns = board
+    whole = [0, rows * flip, columns * flip, (rows + columns) * flip]
+    if not spots:
+        return whole
+    beat, site = spots[0]
+    row, column = places(board)[site]
+    best = [10 ** 9] * 4
+    for at in range(1, len(spots)):
+        rest = least_two_by_two(board, spots[1:at] + spots[at + 1:], flip, lie)
+        down = abs(places(board)[spots[at][1]][0] - row)
+        right = abs(places(board)[spots[at][1]][1] - column)
+        for place in range(4):
+            far = (rows - down if place % 2 else down) + (columns - right if place // 2 else right)
+            cost = flip * far + lie * abs(spots[at][0] - beat)
+            for other in range(4):
+                best[place ^ other] = min(best[place ^ other], cost + rest[other])
+    return best
+
+
+def drawing(board, flips):
+    """The drawing of flips, set sign by sign on a field of blanks."""
+    rows, columns = board
+    field = [[" "] * (2 * columns - at % 2) for at in range(2 * rows)]
+    for site, (row, column) in enumerate(places(board)):
+        field[2 * row][2 * column] = "*" if site in lit(board, flips) else "o"
+        field[2 * row][2 * column + 1] = "=" if 2 * site in flips else "-"
+        field[2 * row + 1][2 * column] = "#" if 2 * site + 1 in flips else "|"
+    return "\n".join("".join(row) for row in field)
+
+
+def arguments(function):
+    """The arguments of a function, as its definition has them."""
+    return str(inspect.signature(function))
+
+
 @contextlib.contextmanager
-def refused(case, error, place=None):
-    """Expect just this error, and its place, if it has one."""
+def refused(case, error, value=None):
+    """Expect just this error, and its place, number or row, if it has one."""
     with case.assertRaises(error) as caught:
         yield
     case.assertEqual(caught.exception.__class__, error)
-    if place is not None:
-        case.assertEqual(caught.exception.place, place)
-        case.assertIs(caught.exception.place.__class__, int)
+    told = list(vars(caught.exception).values())
+    case.assertEqual(told, [] if value is None else [value])
+    case.assertEqual([number.__class__ for number in told], [int] * len(told))
